@@ -324,13 +324,7 @@ func TestCoreOf(t *testing.T) {
 func TestNegateFuncAndDualOf(t *testing.T) {
 	for _, f := range smallAndSomeLarge() {
 		negation := modelFunc(f.Arity, func(arguments []int64) int64 { return 1 - modelValue(f, arguments) })
-		dual := modelFunc(f.Arity, func(arguments []int64) int64 {
-			var others []int64
-			for _, v := range arguments {
-				others = append(others, 1-v)
-			}
-			return 1 - modelValue(f, others)
-		})
+		dual := modelFunc(f.Arity, func(arguments []int64) int64 { return 1 - modelValue(f, othersOf(arguments)) })
 		wantFunc(t, fmt.Sprint("NegateFunc ", f), negation, impl.ErrNone)(impl.NegateFunc(f))
 		wantFunc(t, fmt.Sprint("DualOf ", f), dual, impl.ErrNone)(impl.DualOf(f))
 	}

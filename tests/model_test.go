@@ -69,6 +69,84 @@ func withArgument(arguments []int64, i int64, v int64) []int64 {
 	return changed
 }
 
+func othersOf(arguments []int64) []int64 {
+	var others []int64
+	for _, v := range arguments {
+		others = append(others, 1-v)
+	}
+	return others
+}
+
+func allEqual(n int64, v int64) []int64 {
+	var arguments []int64
+	for range n {
+		arguments = append(arguments, v)
+	}
+	return arguments
+}
+
+func modelSelfDual(f impl.Func) bool {
+	for _, arguments := range allArguments(f.Arity) {
+		if modelValue(f, arguments) == modelValue(f, othersOf(arguments)) {
+			return false
+		}
+	}
+	return true
+}
+
+func modelMonotone(f impl.Func) bool {
+	for _, arguments := range allArguments(f.Arity) {
+		for i := range f.Arity {
+			if arguments[i] == 0 && modelValue(f, arguments) > modelValue(f, withArgument(arguments, i, 1)) {
+				return false
+			}
+		}
+	}
+	return true
+}
+
+// modelAffine has the affine functions of the arity n, made of all choices of c and the a(i).
+func modelAffine(n int64) map[impl.Func]bool {
+	affine := map[impl.Func]bool{}
+	for _, choice := range allArguments(n + 1) {
+		f := modelFunc(n, func(arguments []int64) int64 {
+			sum := choice[n]
+			for i, v := range arguments {
+				sum += choice[i] * v
+			}
+			return sum % 2
+		})
+		affine[f] = true
+	}
+	return affine
+}
+
+func modelInClass(f impl.Func, k int64, affine map[impl.Func]bool) bool {
+	switch k {
+	case 0:
+		return modelValue(f, allEqual(f.Arity, 0)) == 0
+	case 1:
+		return modelValue(f, allEqual(f.Arity, 1)) == 1
+	case 2:
+		return modelSelfDual(f)
+	case 3:
+		return modelMonotone(f)
+	}
+	return affine[f]
+}
+
+func modelClassRow(f impl.Func, affine map[impl.Func]bool) []int64 {
+	var row []int64
+	for k := range int64(5) {
+		v := int64(0)
+		if modelInClass(f, k, affine) {
+			v = 1
+		}
+		row = append(row, v)
+	}
+	return row
+}
+
 func permutationsOf(n int64) [][]int64 {
 	lists := [][]int64{{}}
 	for i := range n {
