@@ -264,11 +264,13 @@ func haveOneArity(list []Func) bool {
 }
 
 func isPermutation(n int64, p []int64) bool {
-	if int64(len(p)) != n {
-		return false
-	}
-	var seen [MaxArity]bool
-	for _, i := range p {
+	return int64(len(p)) == n && areDifferentBelow(n, p)
+}
+
+// areDifferentBelow reports whether the numbers of a list are in 0..n - 1, and none is there twice.
+func areDifferentBelow(n int64, list []int64) bool {
+	seen := make([]bool, n)
+	for _, i := range list {
 		if !isVariable(n, i) || seen[i] {
 			return false
 		}
