@@ -234,6 +234,8 @@ func isArity(n int64) bool { return n >= 0 && n <= MaxArity }
 
 func isVariable(n int64, i int64) bool { return i >= 0 && i < n }
 
+func isRow(n int64, row int64) bool { return row >= 0 && row <= lastRow(n) }
+
 func isDigit(v int64) bool { return v == 0 || v == 1 }
 
 func areDigits(values []int64) bool {
@@ -328,6 +330,13 @@ func tableOf(values []int64) rowTable {
 func digitOf(number int64, i int64) int64 { return number >> i & 1 }
 
 func valueInRow(f Func, row int64) int64 { return digitOf(f.Bits, row) }
+
+func digitIf(holds bool) int64 {
+	if holds {
+		return 1
+	}
+	return 0
+}
 
 func digitByte(v int64) byte { return byte('0' + v) }
 
