@@ -843,8 +843,6 @@ func TestMonotoneAtOnce(t *testing.T) {
 	calls.Wait()
 }
 
-// TestMonotoneFuncsLeaveNothingBehind waits a little, as a goroutine ends only after it has closed its
-// channel.
 func TestMonotoneFuncsLeaveNothingBehind(t *testing.T) {
 	before := runtime.NumGoroutine()
 	for range 10 {
@@ -853,6 +851,13 @@ func TestMonotoneFuncsLeaveNothingBehind(t *testing.T) {
 			impl.CountMonotone(n)
 		}
 	}
+	wantNoMoreGoroutines(t, before)
+}
+
+// wantNoMoreGoroutines waits a little, as a goroutine ends only after it has closed its channel, or has told
+// that it is done.
+func wantNoMoreGoroutines(t *testing.T, before int) {
+	t.Helper()
 	for range 100 {
 		if runtime.NumGoroutine() <= before {
 			return
